@@ -59,6 +59,13 @@ func TestP9_1Shown(t *testing.T) {
 	}
 }
 
+// apart is a trial whose part has the error -1 or 1, but not 0: only then what is read at one end of the stem is shown beside it.
+func apart() trial.Trial {
+	x := single(1098, 1125, test(0, 0, trial.None))
+	x.Spindle.Step, x.Spindle.Width, x.Spindle.Divisions = 10, 5, 2
+	return x
+}
+
 // told is what the calls tell about a trial: the verdicts for the tolerances 0 to 2.
 type told struct {
 	t         trial.Trial
@@ -102,6 +109,7 @@ func tales() []told {
 		{single(900, 900, test(0, 0, -1)), rows(list(1)), ranges(to(900, 900)), lines(1, 0), [3]int{refused, certified, certified}},
 		{single(1120, 1130, test(0, 0, -1)), rows(list(-1, 0, 1)), ranges(to(1120, 1130)), lines(0, 1), [3]int{again, certified, certified}},
 		{single(1110, 1124, test(0, 0, -1)), rows(list(-1)), ranges(to(1112, 1124)), lines(-1, 0), [3]int{refused, certified, certified}},
+		{apart(), rows(list(-1, 1)), ranges(to(1098, 1125)), lines(0, 1), [3]int{refused, certified, certified}},
 		// Two divisions of one part are seen in one liquid: 10 and 9 can be read in 905..913, 9 and 8 in 924..932.
 		{both, rows(list(-2, -1, 0, 1, 2), list(0, 1)), ranges(to(1000, 1000), to(905, 928)), lines(0, 2, 0, 1), [3]int{again, again, certified}},
 	}
@@ -245,6 +253,8 @@ func TestP9_4CorrectExamples(t *testing.T) {
 		// What is read before it is corrected is no division of the stem.
 		{single(900, 900, test(0, 0, -1)), 0, 0, to(0, 0), api.ErrNone}, {single(900, 900, test(0, 0, -1)), 0, 1, to(1112, 1125), api.OK}, {single(900, 900, test(0, 0, -1)), 0, 10, to(910, 927), api.OK},
 		{single(1124, 1125, test(0, 0, -1)), 0, 10, to(0, 0), api.ErrNone}, {single(1124, 1125, test(0, 0, -1)), 0, 9, to(900, 909), api.OK},
+		// Between the densities 1098..1104 and 1119..1125 it means none.
+		{apart(), 0, 1, to(1098, 1125), api.OK}, {apart(), 0, 0, to(1105, 1118), api.OK}, {apart(), 0, 2, to(1105, 1118), api.OK},
 		// It floats in no density.
 		{heavy, 0, 5, to(0, 0), api.ErrNone}, {heavy, 2, 0, to(0, 0), api.ErrNone},
 	} {
